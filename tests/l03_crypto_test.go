@@ -356,8 +356,8 @@ func TestAWrongKeyDoesNotDecrypt(t *testing.T) {
 		if bytes.Equal(c, text) {
 			t.Errorf("Encrypt(%d, %v) is the text itself", key, text)
 		}
-		// The document's cipher is weak: keys far apart may have one stream (3
-		// and 1<<20), so the wrong keys here are neighbours.
+		// The document's cipher is weak: keys far apart may share their first
+		// shifts (3 and 1<<20 share 140), so the wrong keys here are neighbours.
 		for _, step := range []int{-2, -1, 1, 2} {
 			want := make([]byte, len(text))
 			for i := range text {
