@@ -97,12 +97,23 @@ func allLands(w int, h int, kinds int) iter.Seq[impl.Land] {
 	}
 }
 
-// everyLand is each land that the tests have: all of the small ones, and some of
-// the others.
+// smallLands are all those of up to three columns and rows and six cells.
+func smallLands() iter.Seq[impl.Land] {
+	return func(yield func(impl.Land) bool) {
+		for _, sides := range [][2]int{{1, 1}, {1, 2}, {1, 3}, {2, 1}, {3, 1}, {2, 2}, {2, 3}, {3, 2}} {
+			for x := range allLands(sides[0], sides[1], 3) {
+				if !yield(x) {
+					return
+				}
+			}
+		}
+	}
+}
+
+// everyLand is each land that the tests have.
 func everyLand() iter.Seq[impl.Land] {
 	return func(yield func(impl.Land) bool) {
-		small := []iter.Seq[impl.Land]{allLands(1, 1, 3), allLands(2, 1, 3), allLands(1, 2, 3), allLands(2, 2, 3), allLands(4, 1, 3), allLands(1, 4, 3), allLands(3, 2, 3), allLands(2, 3, 3)}
-		for _, lands := range append(small, slices.Values(strewnLands()), slices.Values(drawnLands)) {
+		for _, lands := range []iter.Seq[impl.Land]{smallLands(), slices.Values(strewnLands()), slices.Values(drawnLands)} {
 			for x := range lands {
 				if !yield(x) {
 					return
