@@ -3,21 +3,23 @@ package tests
 import (
 	"slices"
 	"testing"
+
+	"loop.example/g03008/impl"
 )
 
 // guarded holds a slice argument with other elements before it and spare
 // capacity behind it, and remembers what all of that memory was.
-type guarded[E ~int | ~byte] struct {
+type guarded[E comparable] struct {
 	list   []E
 	whole  []E
 	before []E
 }
 
-func guard[E ~int | ~byte](list ...E) guarded[E] {
+func guard[E comparable](list ...E) guarded[E] {
 	const around = 16
 	whole := make([]E, around+len(list)+around)
 	for i := range whole {
-		whole[i] = E(100 + i)
+		whole[i] = strange[E](i)
 	}
 	copy(whole[around:], list)
 	return guarded[E]{
@@ -34,17 +36,41 @@ func (g guarded[E]) check(t *testing.T, name string) {
 	}
 }
 
+// strange returns an element that the lists of the tests hardly have, and that
+// differs from the ones beside it.
+func strange[E comparable](i int) E {
+	var element E
+	switch e := any(&element).(type) {
+	case *int:
+		*e = 100 + i
+	case *byte:
+		*e = byte(100 + i)
+	case *bool:
+		*e = i%2 == 0
+	case *impl.Member:
+		*e = impl.Member{Id: 100 + i, Strength: 200 + i, Need: 300 + i, Ill: i%2 == 0}
+	case *impl.Depot:
+		*e = impl.Depot{Cell: 100 + i, Food: 200 + i}
+	default:
+		panic("there are no such elements")
+	}
+	return element
+}
+
 // scribble writes over all that can be reached from a result.
-func scribble[E ~int | ~byte](result []E) {
+func scribble[E comparable](result []E) {
 	all := result[:cap(result)]
-	for i := range all {
-		all[i] = ^all[i]
+	for i, element := range all {
+		all[i] = strange[E](i)
+		if all[i] == element {
+			all[i] = strange[E](i + 1)
+		}
 	}
 }
 
 // checkOwnMemory calls a function twice: what is written into the first result
 // must show neither in the second one nor in the argument.
-func checkOwnMemory[E, R ~int | ~byte](t *testing.T, name string, argument guarded[E], call func() []R) {
+func checkOwnMemory[E, R comparable](t *testing.T, name string, argument guarded[E], call func() []R) {
 	t.Helper()
 	first := call()
 	argument.check(t, name)
