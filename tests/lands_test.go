@@ -1,6 +1,7 @@
 package tests
 
 import (
+	"fmt"
 	"iter"
 	"math"
 	"slices"
@@ -31,6 +32,14 @@ func drawingOf(x impl.Land) string {
 		text.WriteByte(signs[kind])
 	}
 	return text.String()
+}
+
+// showLand is a text for every land, also for one that cannot be drawn.
+func showLand(x impl.Land) string {
+	if impl.IsLand(x) {
+		return drawingOf(x)
+	}
+	return fmt.Sprintf("%d by %d with %d cells", x.W, x.H, len(x.Cells))
 }
 
 // The lands that the tests draw.

@@ -51,6 +51,14 @@ func strange[E comparable](i int) E {
 		*e = impl.Member{Id: 100 + i, Strength: 200 + i, Need: 300 + i, Ill: i%2 == 0}
 	case *impl.Depot:
 		*e = impl.Depot{Cell: 100 + i, Food: 200 + i}
+	case *impl.Vote:
+		*e = impl.Vote{Who: 100 + i, Choice: 200 + i}
+	case *impl.Page:
+		*e = impl.Page{Day: 100 + i, Cell: 200 + i, Food: 300 + i, Seal: 400 + i}
+	case *impl.Sample:
+		*e = impl.Sample{Id: 100 + i, Weight: 200 + i, Worth: 300 + i}
+	case *impl.Leg:
+		*e = impl.Leg{To: 100 + i, Stay: 200 + i}
 	default:
 		panic("there are no such elements")
 	}
