@@ -53,6 +53,21 @@ func (s scene) setOutOf(to int, storm bool) (impl.Party, bool) {
 	return s.after(to, storm), true
 }
 
+// stepsOnOf is StepsOn in a valid land.
+func (s scene) stepsOnOf(target int) int {
+	way := s.withBase(target).wayHome()
+	at, steps := s, 0
+	for steps+1 < len(way) {
+		p, ok := at.setOutOf(way[steps+1], false)
+		if !ok {
+			break
+		}
+		at.p = p
+		steps++
+	}
+	return steps
+}
+
 // checkGo checks MayGo and GoStep, which is possible in calm where MayGo holds.
 func checkGo(t *testing.T, name string, s scene, to int, want bool) {
 	t.Helper()
@@ -269,16 +284,7 @@ func TestStepsOnOfStrewnParties(t *testing.T) {
 	all, some := 0, 0
 	for s := range strewnScenes(6000) {
 		target := throw(len(s.x.Cells))
-		way := s.withBase(target).wayHome()
-		at, steps := s, 0
-		for steps+1 < len(way) {
-			p, ok := at.setOutOf(way[steps+1], false)
-			if !ok {
-				break
-			}
-			at.p = p
-			steps++
-		}
+		way, steps := s.withBase(target).wayHome(), s.stepsOnOf(target)
 		if got := s.stepsOn(target); got != steps {
 			t.Errorf("StepsOn(%s, %d, %v, %v, %v, %d) is %d, not %d", drawingOf(s.x), s.base, s.r, s.l, s.p, target, got, steps)
 		}

@@ -59,6 +59,8 @@ func strange[E comparable](i int) E {
 		*e = impl.Sample{Id: 100 + i, Weight: 200 + i, Worth: 300 + i}
 	case *impl.Leg:
 		*e = impl.Leg{To: 100 + i, Stay: 200 + i}
+	case *impl.Stock:
+		*e = impl.Stock{Thing: 100 + i, Count: 300 + i, Out: 200 + i}
 	default:
 		panic("there are no such elements")
 	}
@@ -105,4 +107,19 @@ func checkEquality[E comparable](t *testing.T, name string, equal func(a []E, b 
 	if !equal(nil, []E{}) || !equal([]E{}, nil) || !equal([]E{}, []E{}) {
 		t.Errorf("%s: nil and empty lists are not equal", name)
 	}
+}
+
+// listsOf are all lists of so many elements, each one of some numbers.
+func listsOf(count int, numbers ...int) [][]int {
+	lists := [][]int{{}}
+	for range count {
+		longer := [][]int{}
+		for _, l := range lists {
+			for _, n := range numbers {
+				longer = append(longer, append(slices.Clone(l), n))
+			}
+		}
+		lists = longer
+	}
+	return lists
 }
