@@ -1,6 +1,7 @@
 package tests
 
 import (
+	"fmt"
 	"slices"
 	"testing"
 
@@ -59,6 +60,8 @@ func strange[E comparable](i int) E {
 		*e = impl.Sample{Id: 100 + i, Weight: 200 + i, Worth: 300 + i}
 	case *impl.Leg:
 		*e = impl.Leg{To: 100 + i, Stay: 200 + i}
+	case *impl.Event:
+		*e = impl.Event{Kind: 100 + i, N: 200 + i, Storm: i%2 == 0}
 	case *impl.Stock:
 		*e = impl.Stock{Thing: 100 + i, Count: 300 + i, Out: 200 + i}
 	default:
@@ -76,6 +79,15 @@ func scribble[E comparable](result []E) {
 			all[i] = strange[E](i + 1)
 		}
 	}
+}
+
+// brief is a text for a value that may be very long.
+func brief(value any) string {
+	text := fmt.Sprint(value)
+	if len(text) > 600 {
+		return text[:600] + " ..."
+	}
+	return text
 }
 
 // checkOwnMemory calls a function twice: what is written into the first result
